@@ -147,6 +147,11 @@ def number_text(value):
     return str(above) if below == 1 else f"{above}/{below}"
 
 
+def row_text(numbers):
+    """Return the text of some numbers, one item for each."""
+    return " ".join([number_text(number) for number in numbers])
+
+
 def number_of(text):
     """Return the number whose text this is."""
     number = number_in(text) if isinstance(text, str) else None
