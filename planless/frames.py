@@ -1,7 +1,7 @@
 """Places cut out of pieces, and pieces put into frames."""
 
-from planless.errors import BadFrame, BadPiece, Misfit
-from planless.pieces import Hole, is_frame, is_piece, place_at, ways
+from planless.errors import BadFrame, Misfit
+from planless.pieces import Hole, check_piece, is_frame, place_at, ways
 from planless.places import check_size
 
 
@@ -9,12 +9,6 @@ def check_frame(frame):
     """Raise the error for what is no frame."""
     if not is_frame(frame):
         raise BadFrame("frame")
-
-
-def check_piece(value, name):
-    """Raise the error for what is no piece."""
-    if not is_piece(value):
-        raise BadPiece(name)
 
 
 def hole_ways(frame):

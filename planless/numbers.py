@@ -1,6 +1,6 @@
 """Numbers reckoned, written and read; nothing is rounded."""
 
-from math import gcd
+from math import gcd, lcm
 
 from planless.checks import is_integer, is_number, is_numbers, is_row
 from planless.digits import number_in
@@ -22,6 +22,15 @@ def made(above, below):
         common = -common
     above, below = above // common, below // common
     return above if below == 1 else (above, below)
+
+
+def on_one_line(numbers):
+    """Return integers, and the least line over which they are these numbers."""
+    pairs = [above_below(number) for number in numbers]
+    line = 1
+    for _, below in pairs:
+        line = lcm(line, below)
+    return [above * (line // below) for above, below in pairs], line
 
 
 def added(numbers):
@@ -47,6 +56,16 @@ def precedes(one, other):
     above, below = above_below(one)
     other_above, other_below = above_below(other)
     return above * other_below < other_above * below
+
+
+def are_within(numbers, bounds):
+    """Tell whether no number is above its bound."""
+    return not any([precedes(bound, number) for number, bound in zip(numbers, bounds)])
+
+
+def matched_sum(row, other):
+    """Return the sum of the products of what stands at the same index of two rows of numbers."""
+    return added([multiplied(here, there) for here, there in zip(row, other)])
 
 
 def _check_two(one, other):
@@ -136,7 +155,7 @@ def product_sum(row, other):
         raise BadNumber("row")
     if not is_row(other, len(row)):
         raise BadNumber("other")
-    return added([multiplied(here, there) for here, there in zip(row, other)])
+    return matched_sum(row, other)
 
 
 def number_text(value):

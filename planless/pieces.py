@@ -11,6 +11,9 @@ from planless.places import (
 class Hole(Place):
     """A place without parts, to be filled with a piece that has as many hands."""
 
+    KIND = "hole"
+    SIDE = ""
+
     def __init__(self, keeper_hands, rival_hands):
         check_hands(keeper_hands, "keeper_hands")
         check_hands(rival_hands, "rival_hands")
@@ -27,6 +30,9 @@ class Hole(Place):
 class End(Place):
     """Here the keeper pays the rival what the table tells."""
 
+    KIND = "end"
+    SIDE = ""
+
     def __init__(self, table):
         check_table(table)
         Place.__init__(self, len(table), len(table[0]), ())
@@ -42,6 +48,9 @@ class End(Place):
 
 class KeeperMove(Place):
     """The keeper chooses a part; both see it."""
+
+    KIND = "move"
+    SIDE = "keeper"
 
     def __init__(self, parts):
         check_parts(parts)
@@ -62,6 +71,9 @@ class KeeperMove(Place):
 class RivalMove(Place):
     """The rival chooses a part; both see it."""
 
+    KIND = "move"
+    SIDE = "rival"
+
     def __init__(self, parts):
         check_parts(parts)
         check_same_hands(parts)
@@ -80,6 +92,9 @@ class RivalMove(Place):
 
 class Draw(Place):
     """A part is drawn by its weight; both see it."""
+
+    KIND = "draw"
+    SIDE = ""
 
     def __init__(self, weights, parts):
         check_draw(weights)
@@ -104,6 +119,9 @@ class Draw(Place):
 class KeeperHides(Place):
     """The keeper chooses a number below its hand's count; the rival does not see it."""
 
+    KIND = "hides"
+    SIDE = "keeper"
+
     def __init__(self, counts, part):
         check_counts(counts)
         check_part(part)
@@ -125,6 +143,9 @@ class KeeperHides(Place):
 
 class RivalHides(Place):
     """The rival chooses a number below its hand's count; the keeper does not see it."""
+
+    KIND = "hides"
+    SIDE = "rival"
 
     def __init__(self, counts, part):
         check_counts(counts)
@@ -148,6 +169,9 @@ class RivalHides(Place):
 class KeeperSees(Place):
     """A number is drawn by the weights of the keeper's hand; the keeper alone sees it."""
 
+    KIND = "sees"
+    SIDE = "keeper"
+
     def __init__(self, weights, part):
         check_sights(weights)
         check_part(part)
@@ -169,6 +193,9 @@ class KeeperSees(Place):
 
 class RivalSees(Place):
     """A number is drawn by the weights of the rival's hand; the rival alone sees it."""
+
+    KIND = "sees"
+    SIDE = "rival"
 
     def __init__(self, weights, part):
         check_sights(weights)
@@ -192,6 +219,9 @@ class RivalSees(Place):
 class KeeperShows(Place):
     """The rival sees in which lot the keeper's hand is, and the part of this lot is entered."""
 
+    KIND = "shows"
+    SIDE = "keeper"
+
     def __init__(self, lots, parts):
         check_lots(lots)
         check_parts(parts)
@@ -212,6 +242,9 @@ class KeeperShows(Place):
 
 class RivalShows(Place):
     """The keeper sees in which lot the rival's hand is, and the part of this lot is entered."""
+
+    KIND = "shows"
+    SIDE = "rival"
 
     def __init__(self, lots, parts):
         check_lots(lots)
@@ -234,6 +267,12 @@ class RivalShows(Place):
 def is_piece(value):
     """Tell whether the value is a place with no hole in it."""
     return isinstance(value, Place) and len(value.hole_sizes) == 0
+
+
+def check_piece(value, name):
+    """Raise the error for what is no piece."""
+    if not is_piece(value):
+        raise BadPiece(name)
 
 
 def is_frame(value):
@@ -274,16 +313,19 @@ def place_at(place, way):
     return found
 
 
+def check_side(side):
+    """Raise the error for what is no side."""
+    if side not in ("keeper", "rival"):
+        raise Misfit("side")
+
+
 def chooses(place, side):
     """Tell whether this side chooses at the place."""
-    if side == "keeper":
-        return isinstance(place, (KeeperMove, KeeperHides))
-    return isinstance(place, (RivalMove, RivalHides))
+    return place.SIDE == side and place.KIND in ("move", "hides")
 
 
 def choosing_ways(place, side):
     """Return the ways to the places at which this side chooses."""
     check_place(place)
-    if side not in ("keeper", "rival"):
-        raise Misfit("side")
+    check_side(side)
     return tuple([way for way in ways_in(place) if chooses(place_at(place, way), side)])

@@ -1,17 +1,6 @@
 """The least that a point costs that fits conditions, reckoned in integers alone."""
 
-from math import lcm
-
-from planless.numbers import above_below, made
-
-
-def on_one_line(numbers):
-    """Return integers, and the least line over which they are these numbers."""
-    pairs = [above_below(number) for number in numbers]
-    line = 1
-    for _, below in pairs:
-        line = lcm(line, below)
-    return [above * (line // below) for above, below in pairs], line
+from planless.numbers import made, on_one_line
 
 
 class Table:

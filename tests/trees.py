@@ -1,12 +1,21 @@
 """Places for tests: one of each kind, and trees of several kinds, always the same ones."""
 
 import random
+from fractions import Fraction
 
+from fractions_of import number
+
+from planless.books import Book, first_book
 from planless.pieces import (
     Draw, End, Hole, KeeperHides, KeeperMove, KeeperSees, KeeperShows, RivalHides, RivalMove, RivalSees, RivalShows)
 
 GUESS = RivalMove([End([[1], [-1]]), End([[-1], [1]])])
 HIDE = KeeperHides([2], GUESS)
+BLUFF = KeeperSees([[(1, 2), (1, 2)]], KeeperMove([
+    End([[-1], [1]]), RivalMove([End([[-1], [-1]]), End([[-2], [2]])])]))
+# Two places of the keeper, of two hands with one choice and three, and of four hands with two; one of the rival.
+DEEP = KeeperHides([1, 3], KeeperMove([End([[1]] * 4), RivalMove([End([[2]] * 4)])]))
+NO_PIECES = (None, 1, "end 1 1 0", Hole(1, 1), KeeperMove([Hole(1, 1)]), End, [End([[1]])])
 # One place of each kind, with the text that the document tells for it.
 KINDS = [
     (End([[1, (1, 2)], [-3, 0]]), "end 2 2 1 1/2 -3 0"),
@@ -57,9 +66,10 @@ def any_lots(draw, many):
     return sorted(lot for lot in lots if lot)
 
 
-def any_place(draw, keeper, rival, levels, holes=()):
+def any_place(draw, keeper, rival, levels, holes=(), kind=None):
     """Return any place with so many hands and at most so many levels; an end may be a hole of these sizes."""
-    kind = draw.randrange(11) if levels > 1 else 0
+    if kind is None:
+        kind = draw.randrange(11) if levels > 1 else 0
     mine, theirs = (keeper, rival) if kind % 2 else (rival, keeper)
 
     def part(own, other):
@@ -101,3 +111,117 @@ def some_places(many, holes=(), seed=1):
             continue
         found.append(place)
     return found
+
+
+def places_of_all_kinds(many, seed=1):
+    """Return so many places of each kind, those with parts with one to three levels beneath, and one to three hands."""
+    draw = random.Random(seed)
+    found = []
+    for kind in (0, 1, 2, 3, 5, 6, 7, 8, 9, 10):
+        for at in range(many):
+            place, levels = None, 2 + at % 3 if kind else 1
+            while place is None or place.levels != levels:
+                try:
+                    place = any_place(draw, draw.randint(1, 3), draw.randint(1, 3), levels, kind=kind)
+                except ValueError:
+                    continue
+            found.append(place)
+    return found
+
+
+class OverBudget(Exception):
+    """More places or hands than were to be."""
+
+
+def any_number(draw, least=-9999):
+    """Return any number with at most four digits above the line and two below."""
+    return number(Fraction(draw.randint(least, 9999), draw.randint(1, 99)))
+
+
+def great_place(draw, left, keeper, rival, levels):
+    """Return a place with great numbers, and mostly choices in it; left is what places and hands are left."""
+    left[0], left[1] = left[0] - 1, left[1] - keeper - rival
+    if min(left) < 0:
+        raise OverBudget
+    if levels == 1 or draw.random() < .2:
+        return End([[any_number(draw) for _ in range(rival)] for _ in range(keeper)])
+
+    def part(mine, others, by_keeper):
+        sides = (mine, others) if by_keeper else (others, mine)
+        return great_place(draw, left, *sides, levels - 1)
+
+    by_keeper = draw.random() < .5
+    mine, others = (keeper, rival) if by_keeper else (rival, keeper)
+    kind = draw.choice(("move", "move", "hides", "hides", "sees", "shows", "draw"))
+    if kind == "move" or mine == 3 and kind in ("hides", "sees"):
+        parts = [part(mine, others, by_keeper) for _ in range(draw.randint(2, 4))]
+        return (KeeperMove if by_keeper else RivalMove)(parts)
+    if kind == "draw":
+        many = draw.randint(2, 3)
+        return Draw([any_number(draw, 0) for _ in range(many)], [part(mine, others, by_keeper) for _ in range(many)])
+    if kind == "shows":
+        lots = any_lots(draw, mine)
+        return (KeeperShows if by_keeper else RivalShows)(lots, [part(len(lot), others, by_keeper) for lot in lots])
+    counts = [1] * mine
+    while sum(counts) < 3:
+        counts[draw.randrange(mine)] += 1
+    if kind == "hides":
+        return (KeeperHides if by_keeper else RivalHides)(counts, part(3, others, by_keeper))
+    weights = [[any_number(draw, 0) for _ in range(count)] for count in counts]
+    return (KeeperSees if by_keeper else RivalSees)(weights, part(3, others, by_keeper))
+
+
+def great_places(many, seed=1):
+    """Return pieces with nearly as many places and hands as a short time is promised for."""
+    draw = random.Random(seed)
+    found = []
+    while len(found) < many:
+        left = [24, 60]
+        try:
+            place = great_place(draw, left, draw.randint(1, 3), draw.randint(1, 3), draw.randint(4, 9))
+        except OverBudget:
+            continue
+        if left[0] < 2 or left[1] < 6:
+            found.append(place)
+    return found
+
+
+def any_row(draw, choices):
+    """Return any row of chances of so many choices."""
+    shares = [draw.choice((0, 0, 1, draw.randint(1, 9))) for _ in range(choices)]
+    if not any(shares):
+        shares[draw.randrange(choices)] = 1
+    return [number(Fraction(share, sum(shares))) for share in shares]
+
+
+def any_book(draw, piece, side):
+    """Return any book of a side."""
+    return Book(piece, side, [[any_row(draw, len(row)) for row in rows] for rows in first_book(piece, side).chances])
+
+
+def any_reach(draw, hands):
+    """Return any list of so many weights: all 0, of one hand, or any."""
+    if draw.random() < .1:
+        return [0] * hands
+    if draw.random() < .2:
+        at = draw.randrange(hands)
+        return [int(hand == at) for hand in range(hands)]
+    return any_numbers(draw, hands, 0)
+
+
+def long_number(draw, least=-1):
+    """Return any number with twenty to forty digits above the line and below it."""
+    return number(Fraction(draw.choice((least, 1)) * draw.randint(10 ** 20, 10 ** 40), draw.randint(10 ** 20, 10 ** 40)))
+
+
+def with_long_numbers(draw, place):
+    """Return the place with long numbers in the place of all pays and weights but 0."""
+    if not place.parts:
+        return End([[long_number(draw) if pay else 0 for pay in row] for row in place.table])
+    parts = [with_long_numbers(draw, part) for part in place.parts]
+    if isinstance(place, Draw):
+        return Draw([long_number(draw, 1) if weight else 0 for weight in place.weights], parts)
+    if isinstance(place, (KeeperSees, RivalSees)):
+        weights = [[long_number(draw, 1) if weight else 0 for weight in row] for row in place.weights]
+        return (KeeperSees if isinstance(place, KeeperSees) else RivalSees)(weights, parts[0])
+    return place.with_parts(parts)

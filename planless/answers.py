@@ -1,0 +1,86 @@
+"""What is paid, and what the hands of a side can earn at best against a book."""
+
+from planless.arguments import check_reach
+from planless.books import Book, check_book
+from planless.earnings import all_earned, all_reaches
+from planless.hands import by_choice, earned_at_end, picked
+from planless.numbers import added, matched_sum, multiplied
+from planless.pieces import check_piece, choosing_ways, place_at, ways
+
+
+def drawn_weights(piece):
+    """Return for each way the weights of all draws on it, multiplied."""
+    found = {(): 1}
+    for way in ways(piece):
+        place = place_at(piece, way)
+        weights = place.weights if place.KIND == "draw" else [1 for _ in place.parts]
+        for at, weight in enumerate(weights):
+            found[(*way, at)] = multiplied(found[way], weight)
+    return found
+
+
+def pay(piece, keeper_book, rival_book, reach, rival_reach):
+    """Return what is paid if both sides play by these books."""
+    check_piece(piece, "piece")
+    check_book(keeper_book, piece, "keeper", "keeper_book")
+    check_book(rival_book, piece, "rival", "rival_book")
+    check_reach(reach, piece.keeper_hands, "reach")
+    check_reach(rival_reach, piece.rival_hands, "rival_reach")
+    reaches = all_reaches(keeper_book, reach)
+    rival_reaches = all_reaches(rival_book, rival_reach)
+    paid = []
+    for way, weight in drawn_weights(piece).items():
+        place = place_at(piece, way)
+        if place.KIND == "end":
+            earned = earned_at_end(place, "keeper", reaches[way])
+            paid.append(multiplied(weight, matched_sum(earned, rival_reaches[way])))
+    return added(paid)
+
+
+def check_answered(piece, book, side, reach, name):
+    """Raise the error for what is no piece, no book of this side for it, or no reach of this side."""
+    check_piece(piece, "piece")
+    check_book(book, piece, side, "book")
+    check_reach(reach, piece.keeper_hands if side == "keeper" else piece.rival_hands, name)
+
+
+def choice_row(side, values):
+    """Return the row of a hand that takes the first of its choices that are best against this side."""
+    at = values.index(picked(side, values))
+    return [1 if choice == at else 0 for choice in range(len(values))]
+
+
+def answer_to_book(book, reach):
+    """Return the other side's book in which each hand does as well as it can."""
+    other = "rival" if book.side == "keeper" else "keeper"
+    earned = all_earned(book, reach)
+    chances = []
+    for way in choosing_ways(book.piece, other):
+        place = place_at(book.piece, way)
+        below = [earned[(*way, at)] for at in range(len(place.parts))]
+        chances.append([choice_row(book.side, values) for values in by_choice(place, below)])
+    return Book(book.piece, other, chances)
+
+
+def best_limits(piece, book, reach):
+    """Return what the rival's hands are paid at best against a book of the keeper."""
+    check_answered(piece, book, "keeper", reach, "reach")
+    return all_earned(book, reach)[()]
+
+
+def best_answer(piece, book, reach):
+    """Return the rival's book in which each hand does as well as it can against a book of the keeper."""
+    check_answered(piece, book, "keeper", reach, "reach")
+    return answer_to_book(book, reach)
+
+
+def floors(piece, book, rival_reach):
+    """Return what the keeper's hands pay at least against a book of the rival."""
+    check_answered(piece, book, "rival", rival_reach, "rival_reach")
+    return all_earned(book, rival_reach)[()]
+
+
+def floor_answer(piece, book, rival_reach):
+    """Return the keeper's book in which each hand pays as little as it can against a book of the rival."""
+    check_answered(piece, book, "rival", rival_reach, "rival_reach")
+    return answer_to_book(book, rival_reach)

@@ -1,0 +1,31 @@
+"""Errors for what is passed beside a piece."""
+
+from planless.checks import is_row, is_weights
+from planless.errors import BadNumber
+from planless.pieces import check_piece
+
+
+def check_reach(value, many, name):
+    """Raise the error for what is no list of so many weights."""
+    if not is_weights(value, many):
+        raise BadNumber(name)
+
+
+def check_limits(value, many, name):
+    """Raise the error for what is no list of so many numbers."""
+    if not is_row(value, many):
+        raise BadNumber(name)
+
+
+def check_stand(piece, reach, limits):
+    """Raise the error for what is no piece, or no stand of it."""
+    check_piece(piece, "piece")
+    check_reach(reach, piece.keeper_hands, "reach")
+    check_limits(limits, piece.rival_hands, "limits")
+
+
+def check_reaches(piece, reach, rival_reach):
+    """Raise the error for what is no piece, or are no reaches of both sides for it."""
+    check_piece(piece, "piece")
+    check_reach(reach, piece.keeper_hands, "reach")
+    check_reach(rival_reach, piece.rival_hands, "rival_reach")

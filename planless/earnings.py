@@ -1,0 +1,31 @@
+"""Reaches, and what hands earn, at all places of a piece of which a book is."""
+
+from planless.books import chance_rows
+from planless.hands import earned_above, earned_at_end, reaches_below
+from planless.papers import fixed
+from planless.pieces import place_at, ways
+
+
+def all_reaches(book, reach):
+    """Return for each way the reach with which the book's side comes to its end."""
+    rows = chance_rows(book)
+    found = {(): fixed(reach)}
+    for way in ways(book.piece):
+        below = reaches_below(place_at(book.piece, way), book.side, found[way], rows.get(way))
+        for at, part_reach in enumerate(below):
+            found[(*way, at)] = part_reach
+    return found
+
+
+def all_earned(book, reach):
+    """Return for each way what the other side's hands earn at best at its end, against the book."""
+    reaches = all_reaches(book, reach)
+    found = {}
+    for way in reversed(ways(book.piece)):
+        place = place_at(book.piece, way)
+        if place.KIND == "end":
+            found[way] = tuple(earned_at_end(place, book.side, reaches[way]))
+        else:
+            below = [found[(*way, at)] for at in range(len(place.parts))]
+            found[way] = tuple(earned_above(place, book.side, below))
+    return found
