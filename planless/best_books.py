@@ -55,7 +55,7 @@ def holding(piece, reach, limits):
 
     This is a book of the keeper, or a rival reach that sums to 1 and a book of the rival.
     """
-    # On one line reach and limits are great; but so they leave all else as small as it is.
+    # As integers they can be long; but then only they are, as their lines do not come into the rows.
     numbers, _ = on_one_line([*reach, *limits])
     sums = [constant(number) for number in numbers]
     conditions = Conditions()
