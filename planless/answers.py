@@ -5,7 +5,7 @@ from planless.books import Book, check_book
 from planless.earnings import all_earned, all_reaches
 from planless.hands import by_choice, earned_at_end, picked
 from planless.numbers import added, matched_sum, multiplied
-from planless.pieces import check_piece, choosing_ways, place_at, ways
+from planless.pieces import check_piece, choosing_ways, part_ways, place_at, ways
 
 
 def drawn_weights(piece):
@@ -14,8 +14,8 @@ def drawn_weights(piece):
     for way in ways(piece):
         place = place_at(piece, way)
         weights = place.weights if place.KIND == "draw" else [1 for _ in place.parts]
-        for at, weight in enumerate(weights):
-            found[(*way, at)] = multiplied(found[way], weight)
+        for part_way, weight in zip(part_ways(place, way), weights):
+            found[part_way] = multiplied(found[way], weight)
     return found
 
 
@@ -57,7 +57,7 @@ def answer_to_book(book, reach):
     chances = []
     for way in choosing_ways(book.piece, other):
         place = place_at(book.piece, way)
-        below = [earned[(*way, at)] for at in range(len(place.parts))]
+        below = [earned[part_way] for part_way in part_ways(place, way)]
         chances.append([choice_row(book.side, values) for values in by_choice(place, below)])
     return Book(book.piece, other, chances)
 

@@ -3,7 +3,7 @@
 from planless.books import chance_rows
 from planless.hands import earned_above, earned_at_end, reaches_below
 from planless.papers import fixed
-from planless.pieces import place_at, ways
+from planless.pieces import part_ways, place_at, ways
 
 
 def all_reaches(book, reach):
@@ -11,9 +11,10 @@ def all_reaches(book, reach):
     rows = chance_rows(book)
     found = {(): fixed(reach)}
     for way in ways(book.piece):
-        below = reaches_below(place_at(book.piece, way), book.side, found[way], rows.get(way))
-        for at, part_reach in enumerate(below):
-            found[(*way, at)] = part_reach
+        place = place_at(book.piece, way)
+        below = reaches_below(place, book.side, found[way], rows.get(way))
+        for part_way, part_reach in zip(part_ways(place, way), below):
+            found[part_way] = part_reach
     return found
 
 
@@ -26,6 +27,6 @@ def all_earned(book, reach):
         if place.KIND == "end":
             found[way] = tuple(earned_at_end(place, book.side, reaches[way]))
         else:
-            below = [found[(*way, at)] for at in range(len(place.parts))]
+            below = [found[part_way] for part_way in part_ways(place, way)]
             found[way] = tuple(earned_above(place, book.side, below))
     return found

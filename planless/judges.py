@@ -9,7 +9,7 @@ from planless.errors import BadPiece
 from planless.hands import earned_above, earned_at_end
 from planless.numbers import are_within
 from planless.papers import Denial, Paper
-from planless.pieces import check_piece, is_piece, place_at, ways
+from planless.pieces import check_piece, is_piece, part_ways, place_at, ways
 from planless.worths import worth
 
 
@@ -58,7 +58,7 @@ def asked_at(place, way, reach, limits):
     """Return what the limits of a place must not be below, by the reach there and the limits of the parts."""
     if place.KIND == "end":
         return earned_at_end(place, "keeper", reach)
-    return earned_above(place, "keeper", [limits[(*way, at)] for at in range(len(place.parts))])
+    return earned_above(place, "keeper", [limits[part_way] for part_way in part_ways(place, way)])
 
 
 def fits(piece, book, reach, rows):

@@ -294,6 +294,11 @@ def ways_in(place):
     return found
 
 
+def part_ways(place, way):
+    """Return the ways to the parts of a place to which a way leads."""
+    return [(*way, at) for at in range(len(place.parts))]
+
+
 def ways(place):
     """Return the ways to a place and to all places in it, each place ahead of its parts."""
     check_place(place)

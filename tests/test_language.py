@@ -122,6 +122,8 @@ class LanguageTest(unittest.TestCase):
         self.assertEqual([place for _, place in self.nodes(*barred)], [])
         for node, place in self.nodes(ast.BinOp, ast.AugAssign):
             self.assertNotIsInstance(node.op, (ast.Div, ast.MatMult), place)
+        for node, place in self.nodes(ast.Subscript):
+            self.assertFalse(any(isinstance(part, ast.Starred) for part in ast.walk(node.slice)), place)
         for node, place in self.nodes(ast.Constant):
             self.assertIn(node.value.__class__, (int, str, bytes, bool, type(None)), place)
             self.assertFalse(isinstance(node.value, str) and "%" in node.value, place)
