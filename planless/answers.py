@@ -1,31 +1,16 @@
 """What is paid, and what the hands of a side can earn at best against a book."""
 
-from planless.arguments import check_reach
-from planless.books import Book, check_book
-from planless.earnings import all_earned, all_reaches
+from planless.arguments import check_answered, check_played
+from planless.books import Book
+from planless.earnings import all_earned, all_reaches, drawn_weights
 from planless.hands import by_choice, earned_at_end, picked
 from planless.numbers import added, matched_sum, multiplied
-from planless.pieces import check_piece, choosing_ways, part_ways, place_at, ways
-
-
-def drawn_weights(piece):
-    """Return for each way the weights of all draws on it, multiplied."""
-    found = {(): 1}
-    for way in ways(piece):
-        place = place_at(piece, way)
-        weights = place.weights if place.KIND == "draw" else [1 for _ in place.parts]
-        for part_way, weight in zip(part_ways(place, way), weights):
-            found[part_way] = multiplied(found[way], weight)
-    return found
+from planless.pieces import choosing_ways, part_ways, place_at
 
 
 def pay(piece, keeper_book, rival_book, reach, rival_reach):
     """Return what is paid if both sides play by these books."""
-    check_piece(piece, "piece")
-    check_book(keeper_book, piece, "keeper", "keeper_book")
-    check_book(rival_book, piece, "rival", "rival_book")
-    check_reach(reach, piece.keeper_hands, "reach")
-    check_reach(rival_reach, piece.rival_hands, "rival_reach")
+    check_played(piece, keeper_book, "keeper_book", rival_book, reach, rival_reach)
     reaches = all_reaches(keeper_book, reach)
     rival_reaches = all_reaches(rival_book, rival_reach)
     paid = []
@@ -35,13 +20,6 @@ def pay(piece, keeper_book, rival_book, reach, rival_reach):
             earned = earned_at_end(place, "keeper", reaches[way])
             paid.append(multiplied(weight, matched_sum(earned, rival_reaches[way])))
     return added(paid)
-
-
-def check_answered(piece, book, side, reach, name):
-    """Raise the error for what is no piece, no book of this side for it, or no reach of this side."""
-    check_piece(piece, "piece")
-    check_book(book, piece, side, "book")
-    check_reach(reach, piece.keeper_hands if side == "keeper" else piece.rival_hands, name)
 
 
 def choice_row(side, values):

@@ -2,6 +2,7 @@
 
 from planless.books import chance_rows
 from planless.hands import earned_above, earned_at_end, reaches_below
+from planless.numbers import multiplied
 from planless.papers import fixed
 from planless.pieces import part_ways, place_at, ways
 
@@ -29,4 +30,15 @@ def all_earned(book, reach):
         else:
             below = [found[part_way] for part_way in part_ways(place, way)]
             found[way] = tuple(earned_above(place, book.side, below))
+    return found
+
+
+def drawn_weights(piece):
+    """Return for each way the weights of all draws on it, multiplied."""
+    found = {(): 1}
+    for way in ways(piece):
+        place = place_at(piece, way)
+        weights = place.weights if place.KIND == "draw" else [1 for _ in place.parts]
+        for part_way, weight in zip(part_ways(place, way), weights):
+            found[part_way] = multiplied(found[way], weight)
     return found

@@ -1,7 +1,7 @@
 """Whether a book is the best there is, and rows of limits that show it."""
 
 from planless.answers import best_answer
-from planless.arguments import check_reach
+from planless.arguments import check_answered
 from planless.books import check_book
 from planless.checks import is_list, is_row
 from planless.earnings import all_earned, all_reaches
@@ -9,7 +9,7 @@ from planless.errors import BadPiece
 from planless.hands import earned_above, earned_at_end
 from planless.numbers import are_within
 from planless.papers import Denial, Paper
-from planless.pieces import check_piece, is_piece, part_ways, place_at, ways
+from planless.pieces import is_piece, part_ways, place_at, ways
 from planless.worths import worth
 
 
@@ -63,9 +63,7 @@ def asked_at(place, way, reach, limits):
 
 def fits(piece, book, reach, rows):
     """Tell whether the value rows are limits of all places that fit beside the book."""
-    check_piece(piece, "piece")
-    check_book(book, piece, "keeper", "book")
-    check_reach(reach, piece.keeper_hands, "reach")
+    check_answered(piece, book, "keeper", reach, "reach")
     if not are_rows(piece, rows):
         return False
     reaches = all_reaches(book, reach)

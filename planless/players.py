@@ -54,6 +54,13 @@ class Player:
         self.over = part.KIND == "end"
 
 
+def player_at(piece, way, reach, limits):
+    """Return a player that stands at a piece to which it came by a way, with a stand."""
+    player = Player(piece, reach, limits)
+    player.way = way
+    return player
+
+
 def way_read(reading, piece):
     """Take a way in the piece from a text; return it, and the place to which it leads."""
     if reading.here() == "-":
@@ -76,9 +83,7 @@ def taken_up(piece, text):
     reading.take_word(("/",))
     limits = [reading.take_number() for _ in range(place.rival_hands)]
     reading.check_end()
-    player = Player(place, reach, limits)
-    player.way = way
-    return player
+    return player_at(place, way, reach, limits)
 
 
 def rows_played(piece, reach, limits):

@@ -5,8 +5,9 @@ import unittest
 from examples import run_examples
 
 from planless import (
-    answers, books, check_cones, check_programs, cones, errors, frames, judges, mirrors, numbers, piece_texts, pieces,
-    players, programs, splits, worths)
+    answers, books, check_compared, check_cones, check_judges, check_naive, check_programs, compared, cones, errors,
+    facets, frames, judges, lists, matches, mirrors, naive, numbers, piece_texts, pieces, players, prices, programs,
+    splits, turnings, worths)
 
 PROGRAMS = """
 >>> pair = Program([2, 3], [([1, 1], "least", 4), ([1, -1], "just", 0)])
@@ -205,11 +206,147 @@ JUDGES = """
 >>> [fits(bluff, good, (1,), rows), fits(bluff, good, (1,), [[0]] + rows[1:]), fits(bluff, good, (1,), rows[:5] + [[-1]]), fits(bluff, bold, (1,), rows), fits(bluff, good, (1,), None)]
 [True, True, False, False, False]
 """
+CHECK_JUDGES = """
+>>> calls, third = Book(bluff, "rival", (((0, 1),),)), Book(bluff, "rival", ((((1, 3), (2, 3)),),))
+>>> [shows_judged(bluff, good, Unbeaten(rows, third)), shows_judged(bluff, good, Unbeaten([[0]] + rows[1:], third)), shows_judged(bluff, good, Unbeaten(rows, calls))]
+[True, False, False]
+>>> [shows_judged(bluff, bold, Beaten(calls, good)), shows_judged(bluff, bold, Beaten(third, good)), shows_judged(bluff, good, Beaten(calls, good))]
+[True, False, False]
+"""
+PRICES = """
+>>> [all_prices(bluff, good, (1,)), all_prices(bluff, bold, (1,))]
+[(((0, 1), 0, 0, 0), ((0, 1), 0, 1, 0)), (((0, 1), 0, 0, 1), ((0, 1), 0, 1, 0))]
+>>> three = KeeperMove((End(((0, 1, -1),)), End(((-1, 0, 1),)), End(((1, -1, 0),))))
+>>> game = RivalHides((3,), three)
+>>> stone, even = Book(game, "keeper", (((1, 0, 0),),)), Book(game, "rival", ((((1, 3), (1, 3), (1, 3)),),))
+>>> [all_prices(game, stone, (1,)), lost(game, stone, even, (1,), (1,)), pay(game, stone, even, (1,), (1,)), best_limits(game, stone, (1,))]
+[(((), 0, 0, 1), ((), 0, 1, 0), ((), 0, 2, 2)), 1, 0, (1,)]
+>>> lost(bluff, bold, third, (1,), (1,))
+(1, 3)
+"""
+FACETS = """
+>>> [walls_of([(1, 0), (2, 1), [2, 4]]), least_of([(1, 0), (2, 1), [2, 4]])]
+[((0, 1), (2, -1)), ((1, 0), (1, 2))]
+>>> square = [(0, 0, 1), (1, 0, 1), (0, 1, 1), (1, 1, 1), (1, 1, 2)]
+>>> [walls_of(square), least_of(square)]
+[((-1, 0, 1), (0, -1, 1), (0, 1, 0), (1, 0, 0)), ((0, 0, 1), (0, 1, 1), (1, 0, 1), (1, 1, 1))]
+>>> [walls_of(walls_of(square)) == least_of(square), walls_of([(3, 0, 0), (0, 2, 0), (0, 0, 5), (1, 1, 1)])]
+[True, ((0, 0, 1), (0, 1, 0), (1, 0, 0))]
+>>> walls_of([(1, 0), (0, 1), (-1, 0)])
+raises Misfit('vectors')
+>>> least_of([(1, 2), (2, 4)])
+raises Misfit('vectors')
+>>> walls_of([(1, 2), (0, 0)])
+raises BadNumber('vectors')
+"""
+LISTS = """
+>>> two, fewer = End(((2,),)), KeeperMove((End(((3,),)), End(((1,),))))
+>>> [rays_for(two), walls_for(two), rays_for(fewer), walls_for(fewer)]
+[((0, 1), (1, 2)), ((-2, 1), (1, 0)), ((0, 1), (1, 1)), ((-1, 1), (1, 0))]
+>>> three = KeeperMove((End(((0, 1, -1),)), End(((-1, 0, 1),)), End(((1, -1, 0),))))
+>>> rays_for(three)
+((0, 0, 0, 1), (0, 0, 1, 0), (0, 1, 0, 0), (1, -1, 0, 1), (1, 0, 1, -1), (1, 1, -1, 0))
+>>> walls_for(three)
+((0, 1, 1, 1), (1, 0, 0, 0), (1, 0, 0, 1), (1, 0, 1, 0), (1, 0, 1, 2), (1, 1, 0, 0), (1, 1, 2, 0), (1, 2, 0, 1))
+>>> [rays_for(RivalHides((3,), three)), walls_for(RivalHides((3,), three))]
+[((0, 1), (1, 0)), ((0, 1), (1, 0))]
+>>> raising = KeeperMove((End(((-1,), (1,))), RivalMove((End(((-1,), (-1,))), End(((-2,), (2,)))))))
+>>> [rays_for(raising), walls_for(raising)]
+[((0, 0, 1), (0, 1, 1), (1, 0, -1), (3, 1, -4)), ((0, 1, 0), (1, 0, 0), (1, 1, 1), (5, -3, 3))]
+>>> [walls_for(KeeperSees((((1, 2), (1, 2)),), raising)), rays_for(Draw(((1, 2), (1, 2)), (two, End(((-4,),)))))]
+[((1, 0), (1, 3)), ((0, 1), (1, -1))]
+>>> rays_for(End(((0, 0, 0, 0), (1, 1, 1, 1), (2, 2, 2, 2))))
+raises TooMany('hands', 6)
+"""
+COMPARED = """
+>>> two, fewer, one = End([[2]]), KeeperMove([End([[3]]), End([[1]])]), End([[1]])
+>>> [compared(fewer, one), never_worse(fewer, two), bool(compared(two, fewer)), bool(never_worse(two, fewer))] == [Alike(), NeverWorse(), False, False]
+True
+>>> chance = Draw([(1, 2), (1, 2)], [two, End([[0]])])
+>>> [compared(chance, one).word, compared(RivalMove([one, chance]), one).word, compared(KeeperMove([chance, two]), fewer).word]
+['alike', 'alike', 'alike']
+>>> flat, steep = End([[1], [1]]), End([[0], [2]])
+>>> [compared(flat, steep).word, never_worse(flat, steep).word, never_worse(steep, flat).word]
+['unlike', 'worse', 'worse']
+>>> compared(two, flat)
+raises Misfit('other')
+>>> compared(End([[0, 0, 0, 0], [0, 0, 0, 0], [0, 0, 0, 0]]), None)
+raises BadPiece('other')
+"""
+CHECK_COMPARED = """
+>>> first = KeeperSees([[1, 0]], RivalSees([[1]], Hole(2, 1)))
+>>> [shows_compared(flat, steep, Unlike(first, 1, 0)), shows_compared(flat, steep, Unlike(first, 0, 1)), shows_compared(flat, steep, compared(flat, steep)), shows_compared(flat, steep, Alike())]
+[True, False, True, False]
+>>> even = KeeperSees([[1, 1]], Hole(2, 1))
+>>> [shows_compared(flat, steep, Unlike(even, 2, 2)), shows_never_worse(flat, steep, Worse(first, 1, 0)), shows_never_worse(steep, flat, Worse(first, 0, 1))]
+[False, True, False]
+>>> last = KeeperSees([[0, (1, 2)]], Hole(2, 1))
+>>> [shows_never_worse(steep, flat, Worse(last, 1, (1, 2))), shows_never_worse(fewer, two, NeverWorse()), shows_never_worse(two, fewer, NeverWorse()), shows_compared(fewer, one, Alike()), shows_compared(fewer, one, None)]
+[True, True, False, True, False]
+"""
+NAIVE = """
+>>> three = KeeperMove((End(((0, 1, -1),)), End(((-1, 0, 1),)), End(((1, -1, 0),))))
+>>> [naive_safe(three, (1,), limits, (1, 1, 1)).word for limits in ((0, 0, 0), (1, 1, 1), (1, 1, 0))]
+['robbed', 'safe', 'robbed']
+>>> told = naive_safe(three, (1,), (0, 0, 0), (2, 1, 1))
+>>> [told.word, told.hand, told.book.chances]
+['robbed', 2, (((0, 1, 0),),)]
+>>> bluff = KeeperSees((((1, 2), (1, 2)),), KeeperMove((End(((-1,), (1,))), RivalMove((End(((-1,), (-1,))), End(((-2,), (2,))))))))
+>>> [naive_safe(bluff, (1,), ((-1, 3),), ((5, 2),)).word, naive_safe(bluff, (1,), (0,), (1,)).word]
+['safe', 'safe']
+"""
+CHECK_NAIVE = """
+>>> stone, none = Book(three, "keeper", (((1, 0, 0),),)), Book(three, "rival", ())
+>>> [shows_naive(three, (1,), (0, 0, 0), (1, 1, 1), Robbed(hand, stone, none)) for hand in (0, 1, 2)]
+[False, True, False]
+>>> [shows_naive(three, (1,), limits, (1, 1, 1), Safe(stone, [(1, none)] * 3)) for limits in ((1, 1, 1), (1, 1, (1, 2)))]
+[True, False]
+>>> [shows_naive(three, (1,), (1, 1, 1), (1, 1, 1), Safe(stone, [((1, 2), none)] * 3)), shows_naive(three, (1,), (0, 0, 0), (2, 1, 1), Robbed(1, stone, none))]
+[False, False]
+"""
+TURNINGS = """
+>>> opened(Draw([1, 2], [End([[3]]), End([[5]])])) == RivalSees([[1, 2]], RivalShows([[0], [1]], [End([[3]]), End([[5]])]))
+True
+>>> opened(KeeperMove([End([[1], [2]]), End([[0], [4]])])) == KeeperHides([2, 2], KeeperShows([[0, 2], [1, 3]], [End([[1], [2]]), End([[0], [4]])]))
+True
+>>> three = KeeperMove([End([[3]]), End([[1]])])
+>>> [trimmed(three) == KeeperMove([End([[1]])]), trimmed(RivalMove(three.parts)) == RivalMove([End([[3]])])]
+[True, True]
+>>> mixed = KeeperMove([End([[0, 2]]), End([[2, 0]]), End([[1, 1]])])
+>>> [trimmed(mixed) == KeeperMove(mixed.parts[:2]), trimmed(Draw([0, 1], [three, KeeperMove([End([[1]])] * 2)])) == Draw([0, 1], [KeeperMove([End([[1]])])] * 2)]
+[True, True]
+>>> [scaled(End([[2, (1, 3)]]), (1, 2)).table, worth(scaled(three, 0), [1], [1]).number, worth(joined(three, End([[4]])), [1], [1]).number]
+[((1, (1, 6)),), 0, 5]
+>>> opened(RivalMove([End([[0, 0, 0]])] * 3))
+raises TooMany('hands', 8)
+>>> joined(three, End([[1, 2]]))
+raises Misfit('other')
+"""
+MATCHES = """
+>>> bluff = KeeperSees((((1, 2), (1, 2)),), KeeperMove((End(((-1,), (1,))), RivalMove((End(((-1,), (-1,))), End(((-2,), (2,))))))))
+>>> match = Match(bluff)
+>>> [match.worth, match.wants, match.told(1), match.keeper_hand, match.wants, match.told((2, 3)), match.wants, match.told(1)]
+[(-1, 3), 'keeper', None, 1, 'coin', None, 'choice', None]
+>>> [match.wants, match.paid, match.story]
+['nothing', 2, ('keeper-sees 1', 'keeper-move 2/3 1', 'rival-move 1', 'end 2')]
+>>> again = Match(bluff)
+>>> [again.told(1), again.told((1, 2)), again.paid, again.story[1:]]
+[None, None, 1, ('keeper-move 1/2 0', 'end 1')]
+>>> [mean_paid(bluff, Book(bluff, "rival", [[row]])) for row in ((1, 0), (0, 1), ((1, 2), (1, 2)))]
+[(-1, 3), (-1, 3), (-1, 3)]
+>>> odd = Match(KeeperSees(((1, 0),), End(((1,), (2,)))))
+>>> odd.told(1)
+raises Misfit('weight')
+>>> again.told(0)
+raises Misfit('over')
+"""
 # A name stands for what the module under whose heading it is printed has, not for what that module imports.
 MODULES = (numbers, programs, check_programs, pieces, piece_texts, frames, books, answers, mirrors, cones, worths,
-           check_cones, splits, players, judges, errors)
+           check_cones, splits, players, judges, check_judges, prices, facets, lists, compared, check_compared, naive,
+           check_naive, turnings, matches, errors)
 SECTIONS = (PROGRAMS, CHECK_PROGRAMS, PIECES, PIECE_TEXTS, FRAMES, BOOKS, ANSWERS, MIRRORS, CONES, WORTHS, CHECK_CONES,
-            SPLITS, PLAYERS, JUDGES)
+            SPLITS, PLAYERS, JUDGES, CHECK_JUDGES, PRICES, FACETS, LISTS, COMPARED, CHECK_COMPARED, NAIVE, CHECK_NAIVE,
+            TURNINGS, MATCHES)
 
 
 def own_names(module):
@@ -243,6 +380,16 @@ class PrintedTest(unittest.TestCase):
             splits: "split fits_split",
             players: "Player taken_up played_book",
             judges: "Unbeaten Beaten judged fits",
+            check_judges: "shows_judged",
+            prices: "all_prices lost",
+            facets: "walls_of least_of",
+            lists: "rays_for walls_for",
+            compared: "Alike NeverWorse Unlike Worse compared never_worse",
+            check_compared: "shows_compared shows_never_worse",
+            naive: "Safe Robbed naive_safe",
+            check_naive: "shows_naive",
+            turnings: "opened trimmed scaled joined",
+            matches: "Match mean_paid",
         }
         for module, names in wanted.items():
             self.assertLessEqual(set(names.split()), set(own_names(module)))
@@ -252,6 +399,7 @@ class PrintedTest(unittest.TestCase):
         self.assertIn("read", vars(programs.Program))
         self.assertLessEqual({"__init__", "__eq__", "__str__", "row"}, set(vars(books.Book)))
         self.assertLessEqual({"__init__", "__eq__", "__str__", "chances", "goes"}, set(vars(players.Player)))
+        self.assertLessEqual({"__init__", "sitting", "told"}, set(vars(matches.Match)))
 
 
 if __name__ == "__main__":
