@@ -6,9 +6,16 @@ from shown import check_holds, check_worth
 from trees import any_number, great_places
 
 from planless.answers import best_limits
+from planless.books import even_book
+from planless.check_judges import shows_judged
+from planless.check_naive import shows_naive
 from planless.cones import holds
+from planless.judges import judged
+from planless.matches import Match, mean_paid
+from planless.naive import naive_safe
 from planless.pieces import Draw, End, KeeperHides, KeeperMove, KeeperSees, RivalHides, RivalMove, RivalSees
 from planless.players import Player, played_book
+from planless.prices import all_prices, lost
 from planless.splits import fits_split, split
 from planless.worths import worth
 
@@ -92,6 +99,42 @@ class ShortTimesTest(unittest.TestCase):
             while not player.over:
                 self.in_short(player.chances)
                 self.in_short(player.goes, draw.randrange(len(player.piece.parts)))
+
+    def test_guesses(self):
+        draw, pieces = self.pieces()
+        for piece in pieces:
+            reach = [any_number(draw, 1) for _ in range(piece.keeper_hands)]
+            guess = [any_number(draw, 1) for _ in range(piece.rival_hands)]
+            for seen in (guess, [1] * piece.rival_hands):
+                limits = best_limits(piece, worth(piece, reach, seen).book, reach)
+                told = self.in_short(naive_safe, piece, reach, limits, guess)
+                self.assertIs(self.in_short(shows_naive, piece, reach, limits, guess, told), True)
+
+    def test_judges_and_prices(self):
+        draw, pieces = self.pieces()
+        for piece in pieces:
+            reach = [any_number(draw, 1) for _ in range(piece.keeper_hands)]
+            theirs = [any_number(draw, 1) for _ in range(piece.rival_hands)]
+            told = worth(piece, reach, theirs)
+            self.in_short(all_prices, piece, told.book, reach)
+            self.assertEqual(self.in_short(lost, piece, told.book, told.rival_book, reach, theirs), 0)
+            if piece.keeper_hands == piece.rival_hands == 1:
+                shown = self.in_short(judged, piece, told.book)
+                self.assertIs(self.in_short(shows_judged, piece, told.book, shown), True)
+
+    def test_matches(self):
+        draw, pieces = self.pieces()
+        for piece in pieces:
+            if piece.keeper_hands == piece.rival_hands == 1:
+                match = self.in_short(Match, piece)
+                self.in_short(mean_paid, piece, even_book(piece, "rival"))
+                while match.wants != "nothing":
+                    value = 0
+                    if match.wants not in ("coin", "choice"):
+                        place, hand = match.sitting().piece, {"keeper": match.keeper_hand, "rival": match.rival_hand}
+                        weights = place.weights if match.wants == "part" else place.weights[hand[match.wants]]
+                        value = draw.choice([at for at, weight in enumerate(weights) if weight])
+                    self.in_short(match.told, value)
 
 
 if __name__ == "__main__":
