@@ -125,10 +125,11 @@ class Match:
 
     def settle(self):
         """Go on by itself while hands are shown; then tell what is wanted, or what is paid at the end."""
-        while self.seated.piece.KIND == "shows":
-            lot = lot_of(self.seated.piece, self.true_hand(self.seated.piece.SIDE))
-            self.go(lot, f"{lot}")
         place = self.seated.piece
+        while place.KIND == "shows":
+            lot = lot_of(place, self.true_hand(place.SIDE))
+            self.go(lot, f"{lot}")
+            place = self.seated.piece
         self.wants = wanted_at(place)
         if place.KIND == "end":
             self.paid = place.table[self.keeper_hand][self.rival_hand]

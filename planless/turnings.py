@@ -22,11 +22,6 @@ def knowing_hands(place):
     return place.keeper_hands if place.SIDE == "keeper" else place.rival_hands
 
 
-def opened_levels(place):
-    """Return how many levels a place has when it is opened."""
-    return (2 if is_opened(place) else 1) + max([opened_levels(part) for part in place.parts], default=0)
-
-
 def check_opened(piece):
     """Raise the error of a piece that is too great to be opened."""
     places = [place_at(piece, way) for way in ways(piece)]
@@ -35,8 +30,8 @@ def check_opened(piece):
         raise TooMany("parts", MOST_OPENED_PARTS)
     if any([knowing_hands(place) * len(place.parts) > MOST_HANDS for place in found]):
         raise TooMany("hands", MOST_HANDS)
-    # Places are counted ahead: within the whole a place might be told for its levels first.
-    check_size(piece.many + len(found), opened_levels(piece))
+    # Places are counted ahead: within the whole a place would be told for its levels first.
+    check_size(piece.many + len(found), piece.levels)
 
 
 def opened_above(place, parts):
